@@ -1,0 +1,1 @@
+"""Ledgerdb: a small database that survives a pulled plug."""
