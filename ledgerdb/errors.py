@@ -15,3 +15,14 @@ class NoPage(LedgerError):
 
 class NoBase(LedgerError):
     pass
+
+
+class WrongWord(LedgerError):
+    # The place is the wrong word's number, from 1 on.
+    def __init__(self, place):
+        LedgerError.__init__(self, f"word {place} is wrong")
+        self.place = place
+
+
+class Constraint(LedgerError):
+    pass

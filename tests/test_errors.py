@@ -2,9 +2,9 @@
 
 import unittest
 
-from ledgerdb.errors import Dead, LedgerError, NoBase, NoPage
+from ledgerdb.errors import Constraint, Dead, LedgerError, NoBase, NoPage, WrongWord
 
-REFUSALS = (Dead, NoPage, NoBase)
+REFUSALS = (Dead, NoPage, NoBase, WrongWord, Constraint)
 
 
 class ErrorsTest(unittest.TestCase):
@@ -31,8 +31,12 @@ class ErrorsTest(unittest.TestCase):
             self.assertNotIsInstance(refusal("words"), others)
 
     def test_words_are_told(self):
-        for refusal in (LedgerError,) + REFUSALS:
+        for refusal in (LedgerError, Dead, NoPage, NoBase, Constraint):
             self.assertEqual(str(refusal("why")), "why")
+
+    def test_a_wrong_word_tells_its_place(self):
+        self.assertEqual(WrongWord(3).place, 3)
+        self.assertIn("3", str(WrongWord(3)))
 
 
 if __name__ == "__main__":
