@@ -26,3 +26,7 @@ class WrongWord(LedgerError):
 
 class Constraint(LedgerError):
     pass
+
+
+class NoRoom(LedgerError):
+    pass
