@@ -31,6 +31,11 @@ UNUSED_WORDS = re.compile(
 UNUSED_FILES = set("test tests testing site conftest sitecustomize usercustomize".split()) | set(dir(builtins))
 PYTHONS_OWN = set().union(*[dir(kind) for kind in (str, int, list, dict, set, bytes)])
 
+WALKED_AT_ONCE = set("zip enumerate reversed range items keys values".split())
+WALKERS = set("list tuple dict sorted sum any all enumerate zip".split())
+KEYWORDS = {"sorted": {"key", "reverse"}, "min": {"key", "default"}, "max": {"key", "default"}, "sum": {"start"},
+            "enumerate": {"start"}, "zip": {"strict"}}
+
 STATEMENTS = (
     ast.FunctionDef, ast.ClassDef, ast.Return, ast.Assign, ast.AugAssign, ast.For, ast.While, ast.If, ast.Raise,
     ast.Try, ast.ImportFrom, ast.Expr, ast.Pass, ast.Break, ast.Continue)
@@ -64,6 +69,7 @@ def check_package(sources):
         for node in ast.walk(trees[name]):
             check_node(findings, node, own_methods)
         check_locals(findings)
+        check_uses(findings)
         found += findings.found
     return found + check_kinds_of_names(trees, own_methods) + check_circles(trees)
 
@@ -290,6 +296,58 @@ def check_top_lists(findings):
         if isinstance(node, ast.Call) and isinstance(node.func, ast.Attribute) and node.func.attr in CHANGING:
             if isinstance(node.func.value, ast.Name) and node.func.value.id in kept:
                 findings.add("L15", node.lineno, "a list of the top is changed")
+
+
+def called_name(node):
+    """The name by which a call calls: a plain one or a method's; else an empty text."""
+    if not isinstance(node, ast.Call):
+        return ""
+    return node.func.id if isinstance(node.func, ast.Name) else getattr(node.func, "attr", "")
+
+
+def check_uses(findings):
+    parents = {child: node for node in ast.walk(findings.tree) for child in ast.iter_child_nodes(node)}
+    kept = {node.targets[0].id for node in findings.tree.body
+            if isinstance(node, ast.Assign) and isinstance(node.value, (ast.List, ast.Dict))}
+    for node in ast.walk(findings.tree):
+        if called_name(node) in WALKED_AT_ONCE and not is_walked(node, parents[node]):
+            findings.add("L23", node.lineno, called_name(node))
+        if isinstance(node, ast.Call) and (called_name(node) in METHODS or called_name(node) in BUILTIN_NAMES):
+            if any(keyword.arg not in KEYWORDS.get(called_name(node), ()) for keyword in node.keywords):
+                findings.add("L22", node.lineno, called_name(node))
+        if isinstance(node, ast.Name) and isinstance(node.ctx, ast.Load):
+            if node.id in BUILTIN_NAMES and not is_used_as_it_is(node, parents[node], parents):
+                findings.add("L22", node.lineno, f"{node.id} is kept")
+            if node.id in kept and not is_only_read(node, parents[node]):
+                findings.add("L15", node.lineno, f"{node.id} is handed on")
+
+
+def is_walked(node, parent):
+    if isinstance(parent, (ast.For, ast.comprehension)):
+        return parent.iter is node
+    if called_name(parent) in WALKERS:
+        return node in parent.args and (parent.args[0] is node or called_name(parent) == "zip")
+    if called_name(parent) in ("min", "max"):
+        return parent.args == [node]
+    return called_name(parent) == "join" and isinstance(parent.func.value, ast.Constant)
+
+
+def is_used_as_it_is(node, parent, parents):
+    if isinstance(parent, ast.Call) and parent.func is node:
+        return True
+    if isinstance(parent, ast.Tuple):
+        parent = parents[parent]
+    return called_name(parent) == "isinstance" or isinstance(parent, (ast.keyword, ast.ExceptHandler, ast.ClassDef))
+
+
+def is_only_read(node, parent):
+    if isinstance(parent, (ast.For, ast.comprehension, ast.Compare)):
+        return True
+    if isinstance(parent, ast.Subscript):
+        return parent.value is node
+    if isinstance(parent, ast.Attribute):
+        return parent.attr in METHODS - CHANGING
+    return called_name(parent) in WALKERS | {"len", "min", "max", "reversed"}
 
 
 def check_kinds_of_names(trees, own_methods):

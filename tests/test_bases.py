@@ -14,7 +14,8 @@ MADE = ("create table t (a int not null unique, b text)", "insert into t values 
 STATEMENTS = (
     "create table u (a int)", "drop table t", "insert into t values (3, 'y')", "update t set b = 'z'", "delete from t",
     "select * from t", "begin", "commit", "rollback", "savepoint s", "rollback to s", "select * from nowhere",
-    "insert into t values (1, 'x')", "", "nonsense", "select", "begin begin", "'", "create table t (a int)")
+    "insert into t values (1, 'x')", "", "nonsense", "select", "begin begin", "'", "create table t (a int)",
+    "create table u (a int, b int, c int, d int, e int, f int, g int)")
 
 
 def new_base(*texts):

@@ -2,9 +2,9 @@
 
 import unittest
 
-from ledgerdb.errors import Constraint, Dead, LedgerError, NoBase, NoPage, WrongWord
+from ledgerdb.errors import Constraint, Dead, LedgerError, NoBase, NoPage, NoRoom, WrongWord
 
-REFUSALS = (Dead, NoPage, NoBase, WrongWord, Constraint)
+REFUSALS = (Dead, NoPage, NoBase, WrongWord, Constraint, NoRoom)
 
 
 class ErrorsTest(unittest.TestCase):
@@ -31,7 +31,7 @@ class ErrorsTest(unittest.TestCase):
             self.assertNotIsInstance(refusal("words"), others)
 
     def test_words_are_told(self):
-        for refusal in (LedgerError, Dead, NoPage, NoBase, Constraint):
+        for refusal in (LedgerError, Dead, NoPage, NoBase, Constraint, NoRoom):
             self.assertEqual(str(refusal("why")), "why")
 
     def test_a_wrong_word_tells_its_place(self):

@@ -15,7 +15,12 @@ CLEAN = {
         '"""Lists."""\n\nfrom ledgerdb.errors import Wrong\n\nMOST = 3\nNAMES = ("a", "b")\n\n\n'
         'class Kept:\n    def __init__(self):\n        self.rows = []\n\n    def take(self, row):\n'
         '        if len(row) > MOST:\n            raise Wrong(f"too long: {row!r}")\n'
-        '        self.rows.append([k + 1 for k in row if k not in NAMES])\n'),
+        '        self.rows.append([k + 1 for k in row if k not in NAMES])\n\n\n'
+        'KINDS = {"a": 1}\n\n\n'
+        'def walk(rows):\n    for k, row in enumerate(rows):\n'
+        '        if isinstance(row, (int, str)) and row in KINDS:\n'
+        '            return [dict(zip(row, rows)), max(range(k), default=KINDS[row]), KINDS.get(k), len(KINDS)]\n'
+        '    return sorted([tuple(row.values()) for row in reversed(rows)], key=len, reverse=True)\n'),
 }
 
 # Each of these leaves the rule named ahead of it, as the whole of a function's body.
@@ -52,6 +57,16 @@ WRONG_BODIES = (
     ("L19", "raise a"),
     ("L19", "try:\n        pass\n    except Exception:\n        pass"),
     ("L20", "return a is a"),
+    ("L22", "return len"),
+    ("L22", "return [len, a]"),
+    ("L22", "return a.split(sep=',')"),
+    ("L22", "return list(iterable=a)"),
+    ("L22", "return sorted(a, default=1)"),
+    ("L23", "b = zip(a, a)\n    return b"),
+    ("L23", "return range(3)"),
+    ("L23", "return [a.items()]"),
+    ("L23", "return max(a.values(), 3)"),
+    ("L23", "return len(a.keys())"),
     ("L25", "return a.title()"),
     ("L26", "a.sort = 1"),
     ("L27", "return a ** a"),
@@ -68,6 +83,8 @@ WRONG_FILES = (
     ("L14", "test_one.py", "ONE = 1\n"),
     ("L15", "plain.py", "ONE = 1\nONE = 2\n"),
     ("L15", "plain.py", "ONE = []\n\n\ndef two(a):\n    ONE.append(a)\n"),
+    ("L15", "plain.py", "ONE = [1]\n\n\ndef two():\n    return ONE\n"),
+    ("L15", "plain.py", "ONE = {1: 2}\n\n\ndef two(a):\n    a(ONE)\n"),
     ("L16", "plain.py", "from ledgerdb.lists import Wrong\n"),
     ("L16", "plain.py", "from ledgerdb.plain import one\n"),
     ("L18", "plain.py", "class One:\n    def __init__(self):\n        self.take = 1\n"),

@@ -96,6 +96,22 @@ class ReadyTest(unittest.TestCase):
             keep_state(find_store(disk), state_of(3))
             self.assertEqual(found_on(disk), plain(state_of(3)))
 
+    def test_pages_that_look_almost_like_heads(self):
+        head = make_disk(8).read(0)
+        for row in ([255] * len(head), head[:-1], head + [0], head[:-1] + [255, 255], [head[0] + 1] + [255] * 16,
+                    head[:6], [0] * len(head)):
+            for places in ((0,), (1,), (0, 1)):
+                disk = Disk(8)
+                for k in places:
+                    disk.write(k, row)
+                disk.sync()
+                with self.assertRaises(NoBase):
+                    find_store(disk)
+                make_ready(disk)
+                self.assertEqual(found_on(disk), {})
+                keep_state(find_store(disk), state_of(1))
+                self.assertEqual(found_on(disk), plain(state_of(1)))
+
     def test_whatever_stood_behind_on_pages_of_another_database(self):
         other = make_disk(12)
         for rows in (3, 4, 5):
